@@ -139,6 +139,22 @@ func TestNumbersThatAreNot(t *testing.T) {
 	}
 }
 
+func TestNumber(t *testing.T) {
+	for _, want := range []int{0, 1, 9, 10, 63, 65535, -1, -10, math.MaxInt, math.MinInt} {
+		if got, ok := Number(strconv.Itoa(want)); got != want || !ok {
+			t.Errorf("Number of %d = %d, %v", want, got, ok)
+		}
+	}
+	for _, s := range []string{
+		"", " ", "-", "+3", "-0", "00", "03", "-03", " 3", "3 ", "3\n", "3;", "3.0", "0x3", "1_0", "a",
+		"9223372036854775808", "-9223372036854775809", strings.Repeat("9", 5000),
+	} {
+		if got, ok := Number(s); got != 0 || ok {
+			t.Errorf("Number(%q) = %d, %v, want 0, false", s, got, ok)
+		}
+	}
+}
+
 // Numbers may be any, as they are written: it is Check that says which are too great.
 func TestNumbersThatMayNotBe(t *testing.T) {
 	for field, numbers := range map[string][]int{
